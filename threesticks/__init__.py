@@ -1,0 +1,1 @@
+"""Triangles of sticks: threesticks.heap.answers(calls) answers a line of calls."""
