@@ -3,14 +3,26 @@
 from threesticks.heap import answers
 
 ABOUT, SHOWS, ONE, PLACE, KINDS, LONGEST, AREA, GREATEST = range(8)
+LEAST, HEAP, PUT, THREES, MOST, SPARE, WITHOUT = range(8, 15)
 
 GREATEST_NUMBER = 4294967295
 
 
+def heap(lengths):
+    """The call that makes these the heap."""
+    return (HEAP, len(lengths), *lengths)
+
+
+def one_list(calls):
+    return [number for call in calls for number in call]
+
+
 def ask(*calls):
     """The answers of these calls, a list for each; a call is a tuple of its number and its numbers."""
-    handed_in = [number for call in calls for number in call]
-    told = answers(handed_in)
+    return taken_apart(answers(one_list(calls)), calls)
+
+
+def taken_apart(told, calls):
     parts = []
     at = 0
     while at < len(told):

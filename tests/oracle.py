@@ -1,7 +1,9 @@
-"""What the tests compare with: triangles found by going through all threes of sides.
+"""What the tests compare with: triangles found by going through all threes of sides or of places.
 
 Nothing here draws from the program, so that a fault of the program isn't repeated.
 """
+
+import itertools
 
 # A triangle of perimeter 300, the greatest that place can be asked of, has no side above 149.
 GREATEST_SIDE = 149
@@ -57,3 +59,54 @@ def sixteen_squares(a, b, c):
 
 def greatest(triangles):
     return sorted(triangles, key=lambda t: (-sixteen_squares(*t), t))[0]
+
+
+def least(triangles):
+    return sorted(triangles, key=lambda t: (sixteen_squares(*t), t))[0]
+
+
+def makes_triangle(three):
+    """Each of the three sides is less than the two others together, in whatever order they stand."""
+    return all(2 * side < sum(three) for side in three)
+
+
+def places_of_threes(sticks):
+    """The threes of places whose sticks make a triangle."""
+    threes = itertools.combinations(range(len(sticks)), 3)
+    return [places for places in threes if makes_triangle([sticks[place] for place in places])]
+
+
+def threes(sticks):
+    """The triangles of a heap, one for each three of places."""
+    return [tuple(sorted(sticks[place] for place in places)) for places in places_of_threes(sticks)]
+
+
+def most(triangles):
+    return sorted(triangles, key=lambda t: (-sum(t), t))[0]
+
+
+def spare(sticks):
+    """The fewest places of all choices of places that take a stick from each three that makes a triangle."""
+    masks = [sum(1 << place for place in places) for places in places_of_threes(sticks)]
+    fewest = len(sticks)
+    for taken in range(1 << len(sticks)):
+        if taken.bit_count() < fewest and all(taken & mask for mask in masks):
+            fewest = taken.bit_count()
+    return fewest
+
+
+def longest_without(n, begun=()):
+    """How many lengths from 1 to n there can be without a triangle, by going through all rising rows of them."""
+    found = len(begun)
+    for length in range(begun[-1] if begun else 1, n + 1):
+        if not any(makes_triangle((a, b, length)) for a, b in itertools.combinations(begun, 2)):
+            found = max(found, longest_without(n, begun + (length,)))
+    return found
+
+
+def without(n):
+    lengths = [1, 1]
+    for length in range(2, n + 1):
+        if length == lengths[-1] + lengths[-2]:
+            lengths.append(length)
+    return [len(lengths)] + lengths

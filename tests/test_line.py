@@ -5,10 +5,12 @@ import io
 import sys
 import unittest
 
-from tests.calls import ABOUT, AREA, GREATEST, KINDS, LONGEST, ONE, PLACE, SHOWS, ask
-from threesticks.heap import Line, answers
+from tests.calls import ABOUT, AREA, GREATEST, HEAP, KINDS, LEAST, LONGEST, MOST, ONE, PLACE, PUT, SHOWS, SPARE
+from tests.calls import THREES, WITHOUT, ask, heap
+from tests.watched import WatchedList
+from threesticks.heap import answers
 
-# Forty calls, all eight of them, refused ones among them.
+# Forty calls, all that need no heap but least and without, refused ones among them.
 FORTY = [
     SHOWS, KINDS, GREATEST, ONE, 1, ONE, 2, ONE, 3, ONE, 4, ONE, 0,
     ABOUT, 0, SHOWS, ABOUT, 7, SHOWS, ONE, 1, ONE, 2, ONE, 3, KINDS, GREATEST,
@@ -28,16 +30,6 @@ FORTY_ANSWERED = [
 ]
 
 
-class WatchedList(list):
-    """A list that tells when something tries to change it, be it for a while."""
-
-    def refuse(self, *given, **named):
-        raise AssertionError("the list that is handed in was changed")
-
-    append = extend = insert = pop = remove = clear = sort = reverse = refuse
-    __setitem__ = __delitem__ = __iadd__ = __imul__ = refuse
-
-
 class Beginning(unittest.TestCase):
     def test_perimeter_is_12_and_the_heap_is_empty(self):
         self.assertEqual(answers([SHOWS]), [2, 12, 0])
@@ -53,18 +45,22 @@ class Shows(unittest.TestCase):
         self.assertEqual(ask((ABOUT, 200), (SHOWS,), (SHOWS,)), [[833], [200, 0], [200, 0]])
 
     def test_sticks_by_their_places(self):
-        line = Line()
-        line.sticks = [5, 3, 1000, 3]
-        self.assertEqual(line.shows(), [12, 4, 5, 3, 1000, 3])
-        self.assertEqual(line.sticks, [5, 3, 1000, 3])
+        told = ask(heap([5, 3, 1000, 3]), (SHOWS,), (THREES,), (MOST,), (SPARE,), (SHOWS,))
+        self.assertEqual(told[1], [12, 4, 5, 3, 1000, 3])
+        self.assertEqual(told[5], [12, 4, 5, 3, 1000, 3])
 
     def test_about_leaves_the_heap(self):
-        line = Line()
-        line.sticks = [5, 3, 4]
-        line.about(7)
-        self.assertEqual(line.shows(), [7, 3, 5, 3, 4])
-        line.about(201)
-        self.assertEqual(line.shows(), [7, 3, 5, 3, 4])
+        told = ask(heap([5, 3, 4]), (ABOUT, 7), (SHOWS,), (ABOUT, 201), (SHOWS,), (THREES,))
+        self.assertEqual(told, [[3], [2], [7, 3, 5, 3, 4], [-1], [7, 3, 5, 3, 4], [1, 0, 0, 1]])
+
+    def test_heap_and_put_leave_the_perimeter(self):
+        told = ask(heap([5]), (SHOWS,), (PUT, 4), (SHOWS,), (ABOUT, 7), heap([9]), (SHOWS,), (PUT, 8), (SHOWS,))
+        self.assertEqual(told[:4], [[1], [12, 1, 5], [2], [12, 2, 5, 4]])
+        self.assertEqual(told[4:], [[2], [1], [7, 1, 9], [2], [7, 2, 9, 8]])
+
+    def test_refused_heap_and_put_leave_the_perimeter(self):
+        told = ask((ABOUT, 7), heap([5, 0]), (SHOWS,), (PUT, 1001), (SHOWS,), (LEAST,), (GREATEST,))
+        self.assertEqual(told, [[2], [-1], [7, 0], [-1], [7, 0], [1, 3, 3], [2, 2, 3]])
 
 
 class HandedIn(unittest.TestCase):
@@ -99,6 +95,18 @@ class HandedIn(unittest.TestCase):
     def test_nothing_is_kept_from_another_line(self):
         answers([ABOUT, 200])
         self.assertEqual(answers([SHOWS, ONE, 2]), [2, 12, 0, 3, 3, 4, 5])
+        answers([HEAP, 2, 5, 4, PUT, 3])
+        self.assertEqual(answers([SHOWS, PUT, 3, SHOWS]), [2, 12, 0, 1, 1, 3, 12, 1, 3])
+        answers([WITHOUT, 1000000])
+        self.assertEqual(answers([WITHOUT, 2]), [4, 3, 1, 1, 2])
+
+    def test_lengths_that_look_like_calls(self):
+        # A heap of 9, 9, 1, then shows, then a heap of none: the counts alone tell where a call ends.
+        self.assertEqual(answers([9, 3, 9, 9, 1, 1, 9, 0, 1]), [1, 3, 5, 12, 3, 9, 9, 1, 1, 0, 2, 12, 0])
+
+    def test_the_longest_list(self):
+        # 40 heaps of 40 lengths: 1680 numbers, all refused.
+        self.assertEqual(answers(([HEAP, 40] + [7] * 40) * 40), [1, -1] * 40)
 
 
 class GivenBack(unittest.TestCase):
@@ -115,6 +123,7 @@ class GivenBack(unittest.TestCase):
         try:
             with contextlib.redirect_stdout(out), contextlib.redirect_stderr(err):
                 answers(list(FORTY))
+                answers([LEAST, HEAP, 3, 5, 4, 3, PUT, 4, THREES, MOST, SPARE, WITHOUT, 1000000, PUT, 0])
         finally:
             sys.stdin = reading
         self.assertEqual((out.getvalue(), err.getvalue()), ("", ""))

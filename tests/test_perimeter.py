@@ -1,10 +1,10 @@
-"""about, one, kinds and greatest: the calls on the triangles of the line's perimeter."""
+"""about, one, kinds, greatest and least: the calls on the triangles of the line's perimeter."""
 
 import unittest
 
 from tests import oracle
-from tests.calls import ABOUT, GREATEST, GREATEST_NUMBER, KINDS, ONE, SHOWS, ask, ask_many, ask_one
-from threesticks.triangles import greatest_area
+from tests.calls import ABOUT, GREATEST, GREATEST_NUMBER, KINDS, LEAST, ONE, SHOWS, ask, ask_many, ask_one, heap
+from threesticks.triangles import greatest_area, least_area
 
 PERIMETERS = range(1, 201)
 WITHOUT_TRIANGLE = (1, 2, 4)
@@ -143,6 +143,43 @@ class Greatest(unittest.TestCase):
     def test_perimeters_that_have_as_great_ones(self):
         # At 70 two smaller ones share their area; the greatest is still the one nearest to like.
         self.assertEqual(ask((ABOUT, 70), (GREATEST,))[1], [23, 23, 24])
+
+
+class Least(unittest.TestCase):
+    def test_by_hand(self):
+        # Of perimeter 12, sixteen squares are 384 at 2 5 5, 576 at 3 4 5, 768 at 4 4 4.
+        self.assertEqual(ask_one(LEAST), [2, 5, 5])
+        self.assertEqual(ask((ABOUT, 7), (LEAST,))[1], [1, 3, 3])
+        self.assertEqual(ask((ABOUT, 10), (LEAST,))[1], [2, 4, 4])
+        self.assertEqual(ask((ABOUT, 199), (LEAST,))[1], [1, 99, 99])
+        self.assertEqual(ask((ABOUT, 200), (LEAST,))[1], [2, 99, 99])
+
+    def test_no_triangle(self):
+        for p in WITHOUT_TRIANGLE:
+            told = ask(heap([3, 4, 5]), (ABOUT, p), (LEAST,), (SHOWS,))
+            self.assertEqual(told[2:], [[-6], [p, 3, 3, 4, 5]])
+
+    def test_one_triangle(self):
+        only = {3: [1, 1, 1], 5: [1, 2, 2], 6: [2, 2, 2], 8: [2, 3, 3]}
+        for p, sides in only.items():
+            self.assertEqual(ask((ABOUT, p), (LEAST,), (GREATEST,)), [[1], sides, sides])
+
+    def test_each_perimeter_as_measured(self):
+        told = of_each_perimeter(LEAST)
+        for p in PERIMETERS:
+            if p in WITHOUT_TRIANGLE:
+                self.assertEqual(told[p], [-6], p)
+            else:
+                self.assertEqual(told[p], list(oracle.least(oracle.of_perimeter(p))), p)
+
+    def test_of_as_small_ones_the_first(self):
+        # No perimeter up to 200 has two that are the least either.
+        first, second = (17, 25, 28), (20, 21, 29)
+        self.assertEqual(least_area([first, second]), [17, 25, 28])
+        self.assertEqual(least_area([first, second, (23, 23, 24)]), [17, 25, 28])
+
+    def test_refused_about_leaves_the_least(self):
+        self.assertEqual(ask((ABOUT, 7), (ABOUT, 0), (LEAST,))[2], [1, 3, 3])
 
 
 if __name__ == "__main__":

@@ -1,6 +1,7 @@
-"""Triangles whose sides are whole numbers: finding them, counting their kinds, measuring them.
+"""Triangles whose sides are whole numbers: finding, counting, measuring them, and doing without.
 
-A triangle is a tuple (a, b, c). Lists of triangles stand by a, then b, then c.
+A triangle is a tuple (a, b, c). Lists of triangles stand by a, then b, then c, so that max and min,
+which take the first of several that measure the same, take the one that is asked for.
 """
 
 
@@ -68,14 +69,60 @@ def sixteen_squares(a, b, c):
     return p * (p - 2 * a) * (p - 2 * b) * (p - 2 * c)
 
 
+def squares_of(triangle):
+    return sixteen_squares(triangle[0], triangle[1], triangle[2])
+
+
 def greatest_area(triangles):
     """The sides of the first triangle that has the greatest area, [] if there is no triangle."""
-    best = []
-    best_squares = 0
-    for a, b, c in triangles:
-        squares = sixteen_squares(a, b, c)
-        # One that is just as great doesn't take the place of an earlier one.
-        if squares > best_squares:
-            best = [a, b, c]
-            best_squares = squares
-    return best
+    return list(max(triangles, key=squares_of, default=()))
+
+
+def least_area(triangles):
+    """The sides of the first triangle that has the least area, [] if there is no triangle."""
+    return list(min(triangles, key=squares_of, default=()))
+
+
+def greatest_perimeter(triangles):
+    """The sides of the first triangle that has the greatest perimeter, [] if there is no triangle."""
+    return list(max(triangles, key=sum, default=()))
+
+
+def of_sticks(sticks):
+    """The triangles that three of the sticks make, one for each three of places, in their order."""
+    lengths = sorted(sticks)
+    found = []
+    for k in range(len(lengths)):
+        for j in range(k):
+            for i in range(j):
+                if is_triangle(lengths[i], lengths[j], lengths[k]):
+                    found.append((lengths[i], lengths[j], lengths[k]))
+    # The longest side was walked first, but triangles stand by the shortest first.
+    return sorted(found)
+
+
+def most_left(sticks):
+    """How many of the sticks can be left at the most so that no three of them make a triangle."""
+    lengths = sorted(sticks)
+    most = min(len(lengths), 2)
+    # In order of length it is enough that no three neighbours make a triangle: of any three, the first
+    # is no longer than the one before the second, the third no shorter than the one behind it. So the
+    # last two decide what can come next, and left[(i, j)] is how many there can be if those are i and j.
+    left = {}
+    for j in range(len(lengths)):
+        for i in range(j):
+            left[(i, j)] = 2
+            for h in range(i):
+                if not is_triangle(lengths[h], lengths[i], lengths[j]):
+                    left[(i, j)] = max(left[(i, j)], left[(h, i)] + 1)
+            most = max(most, left[(i, j)])
+    return most
+
+
+def lengths_without(n):
+    """As many lengths from 1 to n as there can be so that no three make a triangle."""
+    lengths = [1, 1]
+    # A stick that is shorter than the two before it together would make a triangle with them.
+    while lengths[-2] + lengths[-1] <= n:
+        lengths.append(lengths[-2] + lengths[-1])
+    return lengths
